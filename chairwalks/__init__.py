@@ -1,0 +1,1 @@
+"""Chairwalks: chairs that are carried along by people who walk anyway."""

@@ -1,0 +1,168 @@
+"""Promise 3: what holds for every function, and promise 2: what holds for all of them together."""
+
+import unittest
+from copy import deepcopy
+
+from chairwalks.plans import carried, is_plan, row_after, rule_plan
+from chairwalks.rows import are_walkers, is_row, row_error
+from chairwalks.wants import are_wants, bound_of, certificate_holds, find_certificate, needs_of
+from tests.support import (DEEP_LIST, HUGE, ODD_VALUES, P, Q, ROW, all_choices, all_rows, large_cases,
+                           plain_certificate, possible_plans, simulate, small_cases, twins, ways, with_lists)
+
+# Pairs of a function that accepts any value and a value that it accepts as right.
+RIGHT = [
+    (is_row, (1, 0)),
+    (is_row, (0, 1, 50, 0)),
+    (lambda value: row_error(value) is None, (1, 0, 1)),
+    (lambda value: are_walkers(3, value), ((0, 1), (1, 2), (0, 2))),
+    (lambda value: are_walkers(2, value), ((0, 1),)),
+    (lambda value: are_wants(3, value), (0, 1, 0)),
+    (lambda value: are_wants(2, value), (500, 1)),
+    (lambda value: is_plan(ROW, P, value), ((0,), (1,), (0, 1))),
+    (lambda value: is_plan(ROW, P, value), ((), (), (0,))),
+    (lambda value: certificate_holds(ROW, P, (0, 0, 2), value), ("plan", ((0,), (1,), (0, 1)))),
+    (lambda value: certificate_holds(ROW, Q, (0, 0, 2), value), ("bar", 2, (0, 1))),
+    (lambda value: certificate_holds(ROW, Q, (9, 9, 9), value), ("bar", 1, (1,))),
+    (lambda value: certificate_holds(ROW, Q, (9, 9, 9), value), ("bar", 0, ())),
+    (lambda value: certificate_holds(ROW, Q, (9, 9, 9), value), ("bar", 1, ())),
+]
+
+
+def replaced(value, other):
+    """All values that have the other one in the place of a part of this one, at any depth."""
+    found = [other]
+    if isinstance(value, tuple):
+        for at, item in enumerate(value):
+            found += [value[:at] + (part,) + value[at + 1:] for part in replaced(item, other)]
+    return found
+
+
+class Conventions(unittest.TestCase):
+    def test_true_and_false_are_not_1_and_0(self):
+        tried = 0
+        for function, value in RIGHT:
+            for twin in twins(value):
+                tried += 1
+                self.assertEqual(twin, value)
+                for _ in range(2):
+                    self.assertIs(function(twin), False, twin)
+                    self.assertIs(function(value), True, value)
+                    self.assertIs(function(twin), False, twin)
+        self.assertGreater(tried, 30)
+
+    def test_where_the_row_has_a_bool(self):
+        self.assertIsNone(row_error((1, 0, 1)))
+        self.assertEqual(row_error((1, False, True)), (1, "chairs"))
+        self.assertEqual(row_error((True, 0, 1)), (0, "chairs"))
+        self.assertIsNone(row_error((1, 0, 1)))
+
+    def test_lists_are_not_tuples(self):
+        for function, value in RIGHT:
+            for other in with_lists(value):
+                self.assertIs(function(other), False, other)
+            self.assertIs(function(value), True, value)
+
+    def test_any_value_as_any_part(self):
+        odd = [None, "", "0", [], {}, {"a": 0}, DEEP_LIST, HUGE, -HUGE, -1, 501, 0.5, 1.0, b"\x00"]
+        for function, value in RIGHT:
+            for other in odd:
+                for given in replaced(value, other):
+                    self.assertIs(function(given), False, given)
+
+    def test_any_value(self):
+        for function, _ in RIGHT:
+            for value in ODD_VALUES:
+                self.assertIs(type(function(value)), bool, value)
+
+    def test_arguments_do_not_change(self):
+        for function, value in RIGHT:
+            for given in with_lists(value) + [list(value), {"a": list(value)}, [DEEP_LIST]]:
+                before = deepcopy(given)
+                function(given)
+                self.assertEqual(repr(given), repr(before))
+
+    def test_equal_calls_return_equal_results(self):
+        for row, walkers, wants in large_cases(40):
+            moments = (len(walkers),) * (len(row) - 1)
+            calls = [
+                lambda: rule_plan(row, walkers), lambda: carried(row, walkers), lambda: needs_of(row, wants),
+                lambda: bound_of(row, walkers, moments), lambda: find_certificate(row, walkers, wants),
+                lambda: row_after(row, walkers, rule_plan(row, walkers)),
+            ]
+            first = [repr(call()) for call in calls]
+            find_certificate(ROW, Q, (0, 0, 2))
+            self.assertEqual([repr(call()) for call in calls], first)
+
+    def test_results_are_tuples_of_numbers(self):
+        for row, walkers, wants in large_cases(40):
+            found = find_certificate(row, walkers, wants)
+            for result in (rule_plan(row, walkers), carried(row, walkers), needs_of(row, wants), found[1:],
+                           row_after(row, walkers, rule_plan(row, walkers)), (bound_of(row, walkers, ()),)):
+                self.check_numbers(result)
+
+    def check_numbers(self, result):
+        self.assertIs(type(result), tuple)
+        for item in result:
+            if isinstance(item, tuple):
+                self.check_numbers(item)
+            else:
+                self.assertIs(type(item), int)
+
+
+class Guarantees(unittest.TestCase):
+    """Promise 2. Its (a) stands in test_plans, and its (b) in test_wants."""
+
+    def met(self, row, walkers, wants):
+        return find_certificate(row, walkers, wants)[0] == "plan"
+
+    def check_more_or_less(self, row, walkers, wants):
+        for at in range(len(row)):
+            more = row[:at] + (row[at] + 1,) + row[at + 1:]
+            self.assertTrue(self.met(more, walkers, wants), (row, walkers, wants, at))
+            if wants[at] > 0:
+                less = wants[:at] + (wants[at] - 1,) + wants[at + 1:]
+                self.assertTrue(self.met(row, walkers, less), (row, walkers, wants, at))
+        for at in range(len(walkers) + 1):
+            for way in ways(len(row)):
+                further = walkers[:at] + (way,) + walkers[at:]
+                self.assertTrue(self.met(row, further, wants), (row, walkers, wants, at, way))
+
+    def test_c_more_walkers_or_chairs_and_smaller_wants(self):
+        tried = 0
+        for row, walkers in small_cases()[::7]:
+            for end in sorted({simulate(row, plan) for plan in possible_plans(row, walkers)}):
+                self.assertTrue(self.met(row, walkers, end))
+                self.check_more_or_less(row, walkers, end)
+                tried += 1
+        self.assertGreater(tried, 100)
+
+    def test_c_in_large_cases(self):
+        for row, walkers, _ in large_cases(12):
+            if len(row) < 7:
+                self.check_more_or_less(row, walkers[:10], row_after(row, walkers[:10], rule_plan(row, walkers[:10])))
+
+    def test_d_chairs_are_never_more_or_fewer(self):
+        for row, walkers in small_cases():
+            for plan in possible_plans(row, walkers):
+                self.assertEqual(sum(row_after(row, walkers, plan)), sum(row))
+        for row, walkers, _ in large_cases(100):
+            end = row_after(row, walkers, rule_plan(row, walkers))
+            self.assertEqual(sum(end), sum(row))
+            self.assertGreaterEqual(min(end), 0)
+
+    def test_e_what_is_accepted_is_correct(self):
+        accepted = 0
+        for row, walkers in small_cases()[::61]:
+            for wants in all_rows(len(row), 2)[::3]:
+                given = [("plan", plan) for plan in all_choices(walkers)]
+                given += [("bar", station, moments) for station in range(len(row))
+                          for moments in [()] + [(one,) for one in range(4)]]
+                for value in given:
+                    if certificate_holds(row, walkers, wants, value):
+                        accepted += 1
+                        self.assertTrue(plain_certificate(row, walkers, wants, value), (row, walkers, wants, value))
+        self.assertGreater(accepted, 100)
+
+
+if __name__ == "__main__":
+    unittest.main()
