@@ -1,15 +1,13 @@
 """Wants: how many chairs must be where in the end, and the reasons why they can be met or not."""
 
 from chairwalks.bounds import MAX_WANT
-from chairwalks.checks import is_number
+from chairwalks.checks import are_numbers, is_number
 from chairwalks.plans import carried, is_plan, limited_plan, row_after
 
 
 def are_wants(stations, value):
     """Tell whether any value is wants for so many stations."""
-    if not isinstance(value, tuple) or len(value) != stations:
-        return False
-    return all([is_number(want, 0, MAX_WANT) for want in value])
+    return are_numbers(value, MAX_WANT) and len(value) == stations
 
 
 def needs_of(row, wants):

@@ -1,8 +1,10 @@
 """The numbers of the document, and where the interface is defined."""
 
 import unittest
+from pathlib import Path
 
-from chairwalks import bounds, plans, rows, wants
+import chairwalks
+from chairwalks import bounds, counting, plans, rows, texts, values, wants
 
 
 class Bounds(unittest.TestCase):
@@ -28,6 +30,13 @@ class Interface(unittest.TestCase):
         self.check(rows, "is_row row_error are_walkers")
         self.check(plans, "is_plan row_after rule_plan carried")
         self.check(wants, "are_wants needs_of bound_of find_certificate certificate_holds")
+        self.check(counting, "count_plans each_plan")
+        self.check(values, "Chairs Walker")
+        self.check(texts, "corridor_text parse_corridor")
+
+    def test_the_package_holds_only_python_files(self):
+        for path in Path(chairwalks.__file__).parent.iterdir():
+            self.assertTrue(path.suffix == ".py" or path.name == "__pycache__", path)
 
 
 if __name__ == "__main__":

@@ -2,12 +2,27 @@
 
 import unittest
 from copy import deepcopy
+from itertools import islice
 
+from chairwalks.counting import count_plans, each_plan
+from chairwalks.errors import BadNumbers, BadText, BadWay, NoStation
 from chairwalks.plans import carried, is_plan, row_after, rule_plan
 from chairwalks.rows import are_walkers, is_row, row_error
+from chairwalks.texts import corridor_text, parse_corridor
+from chairwalks.values import Chairs, Walker
 from chairwalks.wants import are_wants, bound_of, certificate_holds, find_certificate, needs_of
 from tests.support import (DEEP_LIST, HUGE, ODD_VALUES, P, Q, ROW, all_choices, all_rows, large_cases,
                            plain_certificate, possible_plans, simulate, small_cases, twins, ways, with_lists)
+
+
+def accepts(error, call, *values):
+    """Whether a call returns; otherwise it must raise this error."""
+    try:
+        call(*values)
+    except error:
+        return False
+    return True
+
 
 # Pairs of a function that accepts any value and a value that it accepts as right.
 RIGHT = [
@@ -25,6 +40,14 @@ RIGHT = [
     (lambda value: certificate_holds(ROW, Q, (9, 9, 9), value), ("bar", 1, (1,))),
     (lambda value: certificate_holds(ROW, Q, (9, 9, 9), value), ("bar", 0, ())),
     (lambda value: certificate_holds(ROW, Q, (9, 9, 9), value), ("bar", 1, ())),
+    (lambda value: accepts(BadNumbers, Chairs, value), (1, 0, 1)),
+    (lambda value: accepts(BadNumbers, Chairs, value), (0, 10 ** 6)),
+    (lambda value: accepts(NoStation, lambda: Chairs((7, 7))[value]), 0),
+    (lambda value: accepts(NoStation, lambda: Chairs((7, 7))[value]), 1),
+    (lambda value: accepts(BadWay, Walker, value, 2), 1),
+    (lambda value: accepts(BadWay, Walker, value, 2), 0),
+    (lambda value: accepts(BadWay, Walker, 0, value), 1),
+    (lambda value: accepts(BadText, parse_corridor, value), "1,0 0-1 for 0,1"),
 ]
 
 
@@ -63,7 +86,7 @@ class Conventions(unittest.TestCase):
             self.assertIs(function(value), True, value)
 
     def test_any_value_as_any_part(self):
-        odd = [None, "", "0", [], {}, {"a": 0}, DEEP_LIST, HUGE, -HUGE, -1, 501, 0.5, 1.0, b"\x00"]
+        odd = [None, "", "0", [], {}, {"a": 0}, DEEP_LIST, HUGE, -HUGE, -1, 10 ** 6 + 1, 0.5, 1.0, b"\x00"]
         for function, value in RIGHT:
             for other in odd:
                 for given in replaced(value, other):
@@ -76,7 +99,7 @@ class Conventions(unittest.TestCase):
 
     def test_arguments_do_not_change(self):
         for function, value in RIGHT:
-            for given in with_lists(value) + [list(value), {"a": list(value)}, [DEEP_LIST]]:
+            for given in with_lists(value) + [[value], {"a": [value]}, [DEEP_LIST]]:
                 before = deepcopy(given)
                 function(given)
                 self.assertEqual(repr(given), repr(before))
@@ -87,7 +110,10 @@ class Conventions(unittest.TestCase):
             calls = [
                 lambda: rule_plan(row, walkers), lambda: carried(row, walkers), lambda: needs_of(row, wants),
                 lambda: bound_of(row, walkers, moments), lambda: find_certificate(row, walkers, wants),
-                lambda: row_after(row, walkers, rule_plan(row, walkers)),
+                lambda: row_after(row, walkers, rule_plan(row, walkers)), lambda: count_plans(row, walkers[:1]),
+                lambda: list(islice(each_plan(row, walkers), 20)), lambda: corridor_text(row, walkers, wants),
+                lambda: parse_corridor(corridor_text(row, walkers, wants)),
+                lambda: (Chairs(row) + Chairs(wants)).numbers,
             ]
             first = [repr(call()) for call in calls]
             find_certificate(ROW, Q, (0, 0, 2))
@@ -97,7 +123,10 @@ class Conventions(unittest.TestCase):
         for row, walkers, wants in large_cases(40):
             found = find_certificate(row, walkers, wants)
             for result in (rule_plan(row, walkers), carried(row, walkers), needs_of(row, wants), found[1:],
-                           row_after(row, walkers, rule_plan(row, walkers)), (bound_of(row, walkers, ()),)):
+                           row_after(row, walkers, rule_plan(row, walkers)), (bound_of(row, walkers, ()),),
+                           (count_plans(row, walkers[:1]),), tuple(islice(each_plan(row, walkers), 20)),
+                           (Chairs(row) + Chairs(wants)).numbers,
+                           parse_corridor(corridor_text(row, walkers, wants))):
                 self.check_numbers(result)
 
     def check_numbers(self, result):
