@@ -2,6 +2,7 @@
 
 from chairwalks.bounds import MAX_CHAIRS, MAX_STATIONS, MAX_WALKERS
 from chairwalks.checks import is_number
+from chairwalks.errors import NoStation
 
 
 def is_row(value):
@@ -32,3 +33,14 @@ def is_walker(stations, value):
         return False
     first, last = value
     return is_number(last, 0, stations - 1) and is_number(first, 0, last - 1)
+
+
+def check_station(numbers, value):
+    """Raise NoStation if any value is not a station of a row or of others who have a number for each."""
+    if not is_number(value, 0, len(numbers) - 1):
+        raise NoStation(value)
+
+
+def with_number(numbers, station, number):
+    """Return the numbers of the stations with another number at one of them."""
+    return numbers[:station] + (number,) + numbers[station + 1:]

@@ -1,10 +1,10 @@
 """Values: the chairs of a corridor, which are added and compared, and walkers, who are called."""
 
 from chairwalks.bounds import LIMIT, MAX_STATIONS
-from chairwalks.checks import are_numbers, is_number
-from chairwalks.errors import BadChairs, BadNumbers, BadWay, NoStation, OtherLength, TooFew, TooMuch
+from chairwalks.checks import are_numbers
+from chairwalks.errors import BadChairs, BadNumbers, BadWay, OtherLength, TooFew, TooMuch
 from chairwalks.plans import row_after, rule_plan
-from chairwalks.rows import is_walker
+from chairwalks.rows import check_station, is_walker
 
 
 class Chairs:
@@ -21,8 +21,7 @@ class Chairs:
         return self._numbers
 
     def __getitem__(self, at):
-        if not is_number(at, 0, len(self.numbers) - 1):
-            raise NoStation(at)
+        check_station(self.numbers, at)
         return self.numbers[at]
 
     # Without this, Python would loop by indexes, and end with NoStation.

@@ -55,6 +55,13 @@ def find_certificate(row, walkers, wants):
     return ("plan", limited_plan(row, walkers, needs[1:]))
 
 
+def can_be_met(row, walkers, wants):
+    """Tell whether some possible plan meets the wants."""
+    # The rule carries the most over each stage that any plan does, and nothing comes from outside.
+    most = (0,) + tuple([counts[-1] for counts in carried(row, walkers)])
+    return all([need <= number for need, number in zip(needs_of(row, wants), most)])
+
+
 def tight_moments(row, walkers, counts, stage):
     """Return moments up to this stage whose bound is what the rule carries over it.
 

@@ -3,6 +3,7 @@
 Nothing here calls the package, so that it can be compared with it.
 """
 
+import unittest
 from itertools import combinations, combinations_with_replacement, product
 from random import Random
 
@@ -171,3 +172,132 @@ def with_lists(value):
         for at, item in enumerate(value):
             found += [value[:at] + (other,) + value[at + 1:] for other in with_lists(item)]
     return found
+
+
+class Case(unittest.TestCase):
+    def check_raises(self, kind, fields, call):
+        """Check that a call raises an error of exactly this class, with exactly these fields."""
+        with self.assertRaises(kind) as caught:
+            call()
+        self.assertIs(type(caught.exception), kind)
+        found = vars(caught.exception)
+        self.assertEqual(list(found), list(fields))
+        for name, value in fields.items():
+            self.assertIs(type(found[name]), type(value))
+            self.assertEqual(found[name], value)
+
+    def check_raises_with(self, kind, value, call):
+        """Check that a call raises an error of exactly this class with this very value."""
+        with self.assertRaises(kind) as caught:
+            call()
+        self.assertIs(type(caught.exception), kind)
+        self.assertIs(caught.exception.value, value)
+
+
+def told(call, *values, **named):
+    """What a call returns, or a list of the name of its error and the values of the error's fields."""
+    try:
+        return call(*values, **named)
+    except Exception as error:
+        return [type(error).__name__] + list(vars(error).values())
+
+
+def is_num(value, least, most):
+    return type(value) is int and least <= value <= most
+
+
+def plain_walk(row, walkers):
+    """The number, the stages and the row behind each walker under the rule."""
+    chairs = list(row)
+    found = []
+    for number, (first, last) in enumerate(walkers):
+        stages = []
+        for stage in range(first, last):
+            if chairs[stage] > 0:
+                chairs[stage] -= 1
+                chairs[stage + 1] += 1
+                stages.append(stage)
+        found.append((number, tuple(stages), tuple(chairs)))
+    return found
+
+
+def plain_most(row, walkers, station):
+    """The greatest number of chairs that can be at a station."""
+    brought = [stages.count(station - 1) for _, stages, _ in plain_walk(row, walkers)]
+    return row[station] + sum(brought)
+
+
+def plain_met(row, walkers, wants):
+    """Whether wants can be met: whether no stage has a need that is greater than what the rule carries."""
+    stages = [stage for _, own, _ in plain_walk(row, walkers) for stage in own]
+    for first in range(len(row)):
+        most = stages.count(first - 1) if first > 0 else 0
+        if any(plain_missing(row, wants, first, last) > most for last in range(first, len(row))):
+            return False
+    return True
+
+
+def exchanged(numbers, at, number):
+    return tuple(number if place == at else other for place, other in enumerate(numbers))
+
+
+def plain_edit(state, edit):
+    """The state after an edit and None, or None and the error as told, in the words of the document."""
+    row, walkers, wants = state
+    name, first, last = (edit + (None,))[:3]
+    if name == "stay":
+        if not is_num(first, 0, len(walkers) - 1):
+            return None, ["NoWalker", first]
+        return (row, tuple(way for number, way in enumerate(walkers) if number != first), wants), None
+    if not is_num(first, 0, len(row) - 1):
+        return None, ["NoStation", first]
+    if name == "want":
+        if not is_num(last, 0, 500):
+            return None, ["BadWant", last]
+        return (row, walkers, exchanged(wants, first, last)), None
+    if name == "come":
+        if not is_num(last, 0, len(row) - 1):
+            return None, ["NoStation", last]
+        if first >= last:
+            return None, ["BadWay"]
+        if len(walkers) >= 40:
+            return None, ["TooManyWalkers"]
+        return (row, walkers + ((first, last),), wants), None
+    if not is_num(last, 1, 50):
+        return None, ["BadCount", last]
+    number = row[first] + (last if name == "put" else -last)
+    if number > 50:
+        return None, ["TooMuch", number]
+    if number < 0:
+        return None, ["TooFew", row[first]]
+    return (exchanged(row, first, number), walkers, wants), None
+
+
+def drawn_number(random, most):
+    """Mostly a number that may do, and sometimes one outside or another value."""
+    if random.random() < 0.12:
+        return random.choice([-1, most + 1, True, False, None, "1", (), [1], 1.0, HUGE, -HUGE, {"a": 1}, 50, 51])
+    return random.randint(0, most)
+
+
+def drawn_edit(random, state):
+    """An edit of a state, which may be refused."""
+    row, walkers, _ = state
+    name = random.choice(["put", "put", "take", "want", "come", "come", "stay"])
+    if name == "stay":
+        return (name, drawn_number(random, max(0, len(walkers) - 1)))
+    station = drawn_number(random, len(row) - 1)
+    if name == "come":
+        return (name, station, drawn_number(random, len(row) - 1))
+    if name == "want":
+        return (name, station, drawn_number(random, random.choice([2, 9, 500])))
+    return (name, station, drawn_number(random, random.choice([2, 5, 50])))
+
+
+def drawn_state(random):
+    """A row, walkers and wants."""
+    stations = random.choice([2, 3, 4, 7, 10])
+    row = tuple(random.choice([0, 0, 1, 2, 9, 50]) for _ in range(stations))
+    walkers = tuple(random.choice(ways(stations)) for _ in range(random.choice([0, 1, 4, 12, 39, 40])))
+    wants = tuple(random.choice([0, 0, 0, 1, 3]) for _ in range(stations))
+    return row, walkers, wants

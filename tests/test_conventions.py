@@ -4,10 +4,15 @@ import unittest
 from copy import deepcopy
 from itertools import islice
 
+from chairwalks.corridors import Corridor, GuardedCorridor
 from chairwalks.counting import count_plans, each_plan
-from chairwalks.errors import BadNumbers, BadText, BadWay, NoStation
+from chairwalks.errors import (BadCount, BadEdit, BadLeast, BadNumbers, BadPost, BadRow, BadText, BadWalkers, BadWant,
+                               BadWants, BadWay, NoStation, NoVersion, NoWalker, Rejected)
+from chairwalks.guards import Guard
+from chairwalks.more import enough_walkers, fewest_chairs, idle_walkers, is_reachable, most_at
 from chairwalks.plans import carried, is_plan, row_after, rule_plan
 from chairwalks.rows import are_walkers, is_row, row_error
+from chairwalks.shells import Shell
 from chairwalks.texts import corridor_text, parse_corridor
 from chairwalks.values import Chairs, Walker
 from chairwalks.wants import are_wants, bound_of, certificate_holds, find_certificate, needs_of
@@ -15,13 +20,20 @@ from tests.support import (DEEP_LIST, HUGE, ODD_VALUES, P, Q, ROW, all_choices, 
                            plain_certificate, possible_plans, simulate, small_cases, twins, ways, with_lists)
 
 
-def accepts(error, call, *values):
+def accepts(error, call, *values, **named):
     """Whether a call returns; otherwise it must raise this error."""
     try:
-        call(*values)
+        call(*values, **named)
     except error:
         return False
     return True
+
+
+def corridor():
+    """A new corridor with one edit."""
+    made = Corridor((2, 1, 1), P, (0, 0, 1))
+    made.come(0, 1)
+    return made
 
 
 # Pairs of a function that accepts any value and a value that it accepts as right.
@@ -48,6 +60,40 @@ RIGHT = [
     (lambda value: accepts(BadWay, Walker, value, 2), 0),
     (lambda value: accepts(BadWay, Walker, 0, value), 1),
     (lambda value: accepts(BadText, parse_corridor, value), "1,0 0-1 for 0,1"),
+    (lambda value: is_reachable((1, 1, 0), P, value), (0, 1, 1)),
+    (lambda value: is_reachable((1, 1, 0), (), value), (1, 1, 0)),
+    (lambda value: accepts(BadRow, Corridor, value, ((0, 1),), (0, 0)), (1, 0)),
+    (lambda value: accepts(BadWalkers, Corridor, (0, 0, 0), value, (0, 0, 0)), ((0, 1), (1, 2))),
+    (lambda value: accepts(BadWants, Corridor, (0, 0, 0), (), value), (1, 0, 500)),
+    (lambda value: accepts(NoStation, corridor().put, value, 1), 1),
+    (lambda value: accepts(NoStation, corridor().take, value, 1), 0),
+    (lambda value: accepts(NoStation, corridor().want, value, 1), 0),
+    (lambda value: accepts((NoStation, BadWay), corridor().come, value, 2), 1),
+    (lambda value: accepts((NoStation, BadWay), corridor().come, 0, value), 1),
+    (lambda value: accepts(NoStation, corridor().most, value), 0),
+    (lambda value: accepts(BadCount, corridor().put, 0, value), 1),
+    (lambda value: accepts(BadCount, corridor().take, 0, value), 1),
+    (lambda value: accepts(BadWant, corridor().want, 0, value), 1),
+    (lambda value: accepts(BadWant, corridor().want, 0, value), 0),
+    (lambda value: accepts(NoWalker, corridor().stay, value), 1),
+    (lambda value: accepts(NoWalker, corridor().stay, value), 0),
+    (lambda value: accepts((BadEdit, Rejected), corridor().attempt, [value]), ("put", 1, 1)),
+    (lambda value: accepts((BadEdit, Rejected), corridor().attempt, (value,)), ("come", 0, 1)),
+    (lambda value: accepts((BadEdit, Rejected), corridor().attempt, [value]), ("stay", 1)),
+    (lambda value: accepts(BadPost, Guard, value, 1), 1),
+    (lambda value: accepts(BadPost, GuardedCorridor, (2, 1, 0), P, (0, 0, 1), value, 0), 0),
+    (lambda value: accepts(BadLeast, Guard, 1, value), 1),
+    (lambda value: accepts(BadLeast, Guard(1, 1).short, value), 1),
+    (lambda value: accepts(BadLeast, GuardedCorridor, (2, 1, 0), P, (0, 0, 1), 1, value), 1),
+    (lambda value: accepts(BadText, Corridor.read, value), "1,0 0-1 for 0,1"),
+    (lambda value: Shell(corridor()).execute(value) != "unknown command", "put 0 1"),
+]
+
+# The same for versions, of which None is a right one, too.
+RIGHT_VERSIONS = [
+    (lambda value: accepts(NoVersion, corridor().state, version=value), 1),
+    (lambda value: accepts(NoVersion, corridor().certificate, version=value), 0),
+    (lambda value: accepts(NoVersion, corridor().most, 0, version=value), 1),
 ]
 
 
@@ -63,7 +109,7 @@ def replaced(value, other):
 class Conventions(unittest.TestCase):
     def test_true_and_false_are_not_1_and_0(self):
         tried = 0
-        for function, value in RIGHT:
+        for function, value in RIGHT + RIGHT_VERSIONS:
             for twin in twins(value):
                 tried += 1
                 self.assertEqual(twin, value)
@@ -71,7 +117,7 @@ class Conventions(unittest.TestCase):
                     self.assertIs(function(twin), False, twin)
                     self.assertIs(function(value), True, value)
                     self.assertIs(function(twin), False, twin)
-        self.assertGreater(tried, 30)
+        self.assertGreater(tried, 70)
 
     def test_where_the_row_has_a_bool(self):
         self.assertIsNone(row_error((1, 0, 1)))
@@ -91,9 +137,13 @@ class Conventions(unittest.TestCase):
             for other in odd:
                 for given in replaced(value, other):
                     self.assertIs(function(given), False, given)
+        for function, _ in RIGHT_VERSIONS:
+            self.assertIs(function(None), True)
+            for other in odd[1:]:
+                self.assertIs(function(other), False, other)
 
     def test_any_value(self):
-        for function, _ in RIGHT:
+        for function, _ in RIGHT + RIGHT_VERSIONS:
             for value in ODD_VALUES:
                 self.assertIs(type(function(value)), bool, value)
 
@@ -114,6 +164,11 @@ class Conventions(unittest.TestCase):
                 lambda: list(islice(each_plan(row, walkers), 20)), lambda: corridor_text(row, walkers, wants),
                 lambda: parse_corridor(corridor_text(row, walkers, wants)),
                 lambda: (Chairs(row) + Chairs(wants)).numbers,
+                lambda: enough_walkers(row, walkers, wants), lambda: most_at(row, walkers, 1),
+                lambda: fewest_chairs(row, walkers, wants, 0), lambda: idle_walkers(row, walkers[:5], wants),
+                lambda: is_reachable(row, walkers, row), lambda: Corridor(row, walkers, wants).certificate(),
+                lambda: list(Corridor(row, walkers, wants).walk()), lambda: str(Corridor(row, walkers, wants)),
+                lambda: Shell(Corridor(row, walkers, wants)).execute("most 1"),
             ]
             first = [repr(call()) for call in calls]
             find_certificate(ROW, Q, (0, 0, 2))
@@ -126,7 +181,12 @@ class Conventions(unittest.TestCase):
                            row_after(row, walkers, rule_plan(row, walkers)), (bound_of(row, walkers, ()),),
                            (count_plans(row, walkers[:1]),), tuple(islice(each_plan(row, walkers), 20)),
                            (Chairs(row) + Chairs(wants)).numbers,
-                           parse_corridor(corridor_text(row, walkers, wants))):
+                           parse_corridor(corridor_text(row, walkers, wants)),
+                           idle_walkers(row, walkers[:5], wants), (most_at(row, walkers, 1),),
+                           (enough_walkers(row, walkers, (0,) * len(row)),),
+                           (fewest_chairs(row, walkers, wants[:1] + (0,) * (len(row) - 1), 0),),
+                           Corridor(row, walkers, wants).state(), Corridor(row, walkers, wants).certificate()[1:],
+                           tuple(Corridor(row, walkers, wants).walk())):
                 self.check_numbers(result)
 
     def check_numbers(self, result):
@@ -139,7 +199,7 @@ class Conventions(unittest.TestCase):
 
 
 class Guarantees(unittest.TestCase):
-    """Promise 2. Its (a) stands in test_plans, and its (b) in test_wants."""
+    """Promise 2. Its (a) stands in test_plans, its (b) in test_wants, and its (f) in test_queries."""
 
     def met(self, row, walkers, wants):
         return find_certificate(row, walkers, wants)[0] == "plan"

@@ -10,32 +10,12 @@ from chairwalks.errors import (BadChairs, BadNumbers, BadWay, ChairError, NoStat
                                TooFew, TooMuch)
 from chairwalks.plans import row_after, rule_plan
 from chairwalks.values import Chairs, Walker
-from tests.support import (DEEP_DICT, DEEP_LIST, DEEP_TUPLE, HUGE, ODD_VALUES, all_rows, large_cases,
-                           twins, ways, with_lists)
+from tests.support import (DEEP_DICT, DEEP_LIST, DEEP_TUPLE, HUGE, ODD_VALUES, Case, all_rows,
+                           large_cases, twins, ways, with_lists)
 
 LIMIT = 10 ** 6
 NO_NUMBERS = [None, True, False, "", "0", "1", (), (1,), [], [1], {}, {"a": 1}, 1.0, b"\x01", DEEP_TUPLE,
               DEEP_LIST, DEEP_DICT, Chairs((1, 1)), Walker(0, 1), slice(0, 1)]
-
-
-class Case(unittest.TestCase):
-    def check_raises(self, kind, fields, call):
-        """Check that a call raises an error of exactly this class, with exactly these fields."""
-        with self.assertRaises(kind) as caught:
-            call()
-        self.assertIs(type(caught.exception), kind)
-        found = vars(caught.exception)
-        self.assertEqual(list(found), list(fields))
-        for name, value in fields.items():
-            self.assertIs(type(found[name]), type(value))
-            self.assertEqual(found[name], value)
-
-    def check_raises_with(self, kind, value, call):
-        """Check that a call raises an error of exactly this class with this very value."""
-        with self.assertRaises(kind) as caught:
-            call()
-        self.assertIs(type(caught.exception), kind)
-        self.assertIs(caught.exception.value, value)
 
 
 class Examples(Case):
