@@ -7,9 +7,38 @@ from chairwalks.plans import chairs_after, row_after
 
 def count_plans(row, walkers):
     """Return the number of possible plans of walkers who walk few stages in all."""
-    if sum([last - first for first, last in walkers]) > SMALL_STAGES:
+    stages = [stage for first, last in walkers for stage in range(first, last)]
+    if len(stages) > SMALL_STAGES:
         raise TooLarge(SMALL_STAGES)
-    return len(list(each_plan(row, walkers)))
+    return count_choices(row, stages)
+
+
+def count_choices(row, stages):
+    """Return in how many ways chairs can be carried over some of these stages, one after another."""
+    left = [stages.count(station) for station in range(len(row))]
+    # How many ways lead to each row. Of two rows that differ only in chairs that nobody is left
+    # to carry, the same is possible from then on: they count as one, so that there are only few.
+    ways = {carriable(row, left): 1}
+    for stage in stages:
+        left[stage] -= 1
+        ways = ways_after(ways, stage, left)
+    return sum(ways.values())
+
+
+def ways_after(ways, stage, left):
+    """Return how many ways lead to each row after someone has walked a stage, with a chair or without."""
+    after = {}
+    for chairs, many in ways.items():
+        for choice in (chairs, chairs_after(chairs, ((stage,),))):
+            if choice is not None:
+                rest = carriable(choice, left)
+                after[rest] = after.get(rest, 0) + many
+    return after
+
+
+def carriable(chairs, left):
+    """Return the numbers of chairs without those that nobody is left to carry from their station."""
+    return tuple([min(number, most) for number, most in zip(chairs, left)])
 
 
 def each_plan(row, walkers):

@@ -1,13 +1,15 @@
 """Promise 11: how many possible plans there are, and which."""
 
+import sys
 import unittest
 from inspect import isgeneratorfunction
 from itertools import islice
+from random import Random
 
 from chairwalks.counting import count_plans, each_plan
 from chairwalks.errors import ChairError, TooLarge
 from chairwalks.plans import is_plan, row_after, rule_plan
-from tests.support import P, Q, ROW, large_cases, possible_plans, simulate, small_cases
+from tests.support import P, Q, ROW, large_cases, possible_plans, simulate, small_cases, ways
 
 W = ((0, 1), (0, 1))
 LONG = ((0, 9),) * 40
@@ -15,6 +17,26 @@ LONG = ((0, 9),) * 40
 
 def stages_of(walkers):
     return sum(last - first for first, last in walkers)
+
+
+def drawn_walkers(random, stations, stages):
+    """Walkers who walk exactly so many stages in all."""
+    walkers = []
+    while stages > 0:
+        walkers.append(random.choice([way for way in ways(stations) if way[1] - way[0] <= stages]))
+        stages -= walkers[-1][1] - walkers[-1][0]
+    return tuple(walkers)
+
+
+def calls_made(call):
+    """How many functions, those of Python itself included, a call calls."""
+    calls = []
+    sys.setprofile(lambda frame, event, _: calls.append(event) if event in ("call", "c_call") else None)
+    try:
+        call()
+    finally:
+        sys.setprofile(None)
+    return len(calls)
 
 
 class Examples(unittest.TestCase):
@@ -114,6 +136,50 @@ class Limit(unittest.TestCase):
     def test_each_plan_has_no_limit(self):
         self.assertEqual(len(list(each_plan((1, 0), ((0, 1),) * 40))), 41)
         self.assertEqual(len(list(each_plan((50, 0), ((0, 1),) * 13))), 2 ** 13)
+
+
+class Counts(unittest.TestCase):
+    """count_plans does not go through the plans, and must count the same ones."""
+
+    def check(self, row, walkers):
+        self.assertEqual(count_plans(row, walkers), len(list(each_plan(row, walkers))), (row, walkers))
+
+    def test_twelve_walkers_and_fifty_chairs(self):
+        self.assertEqual(repr(count_plans((50, 50), ((0, 1),) * 12)), "4096")
+
+    def test_drawn_rows_and_walkers(self):
+        random = Random(61)
+        for _ in range(400):
+            stations = random.randint(2, 10)
+            row = tuple(random.choice((0, 0, 1, 1, 2, 3, 4, 50)) for _ in range(stations))
+            self.check(row, drawn_walkers(random, stations, random.randint(0, 9)))
+
+    def test_twelve_stages(self):
+        random = Random(67)
+        for _ in range(40):
+            stations = random.randint(2, 10)
+            row = tuple(random.choice((0, 0, 0, 1, 2, 5)) for _ in range(stations))
+            self.check(row, drawn_walkers(random, stations, 12))
+
+    def test_just_enough_chairs_and_one_fewer(self):
+        for many in range(1, 8):
+            for chairs in range(many + 2):
+                self.check((chairs, 0), ((0, 1),) * many)
+                self.check((chairs, 1, 0), ((0, 1),) * (many // 2) + ((1, 2),) * (many - many // 2))
+                self.check((1, chairs, 0), ((1, 2),) * (many // 2) + ((0, 1),) * (many - many // 2))
+                self.check((chairs, 0, 0), ((0, 2),) * (many // 2) + ((0, 1),) * (many - many // 2))
+
+    def test_it_takes_few_steps(self):
+        random = Random(71)
+        cases = [((50, 50), ((0, 1),) * 12), ((4, 50, 1), ((0, 1),) * 2 + ((1, 2),) * 10)]
+        for _ in range(60):
+            stations = random.randint(2, 10)
+            row = tuple(random.choice((0, 1, 2, 3, 4, 50)) for _ in range(stations))
+            cases.append((row, drawn_walkers(random, stations, 12)))
+        for row, walkers in cases:
+            self.assertLess(calls_made(lambda: count_plans(row, walkers)), 4000, (row, walkers))
+        # One row for each of the walkers is enough here.
+        self.assertLess(calls_made(lambda: count_plans(*cases[0])), 400)
 
 
 class Generators(unittest.TestCase):
